@@ -3,7 +3,7 @@
 import copy
 import unittest
 
-from support import FEW, MANY, merge_patch, merge_row, nested, shares, wide
+from support import FEW, MANY, Refusing, merge_patch, merge_row, nested, shares, wide
 from twopatches.documents import applied, check, run
 from twopatches.effects import Effect, effect
 from twopatches.errors import Large, NoBack, NoDocument
@@ -22,20 +22,6 @@ WRONG = (
     [True], [False], [1, True], [1.5], [None, (1,)], [b"a"], [[]], [1, [2]], [{}], [{"a": 1}], ["x", None, object()],
     {1: 2}, {None: 1}, {True: 1}, {("a",): 1}, {b"a": 1}, {"a": 1, 2: 3}, {1.5: "x", "b": {}},
 )
-
-
-class Refusing(unittest.TestCase):
-
-    def refused(self, path, call, *given):
-        with self.assertRaises(NoDocument) as raised:
-            call(*given)
-        self.assertEqual(raised.exception.path, path)
-        self.assertIsInstance(raised.exception.path, tuple)
-
-    def large(self, what, call, *given):
-        with self.assertRaises(Large) as raised:
-            call(*given)
-        self.assertEqual(raised.exception.what, what)
 
 
 class Check(Refusing):

@@ -2,10 +2,9 @@
 
 import copy
 import itertools
-import json
 import unittest
 
-from support import FEW, MANY, merge_row, nested, shares, wide
+from support import FEW, MANY, doing, merge_row, nested, shares, wide
 from twopatches.documents import run
 from twopatches.effects import Effect, effect
 from twopatches.errors import Large, NoDocument
@@ -112,11 +111,6 @@ TREES = (
 ROWS = ([()] + [(one,) for one in MANY] + [(one, other) for one in FEW for other in FEW]
         + list(itertools.product(FEW[1:8], repeat=3)))
 
-# Objects with one member each and an atom that no row sets: where two effects differ, one of these shows it.
-CHAINS = ["w"]
-for _ in range(4):
-    CHAINS = ["w"] + [{key: inner} for key in "abz" for inner in CHAINS]
-
 
 class Trees(unittest.TestCase):
 
@@ -166,9 +160,9 @@ class Trees(unittest.TestCase):
         trees, doings = {}, {}
         for row in ROWS:
             shown = repr(tree(effect(row)))
-            did = [json.dumps(merge_row(document, row), sort_keys=True) for document in CHAINS]
+            did = doing(row)
             self.assertEqual(doings.setdefault(shown, did), did, row)
-            self.assertEqual(trees.setdefault(repr(did), shown), shown, row)
+            self.assertEqual(trees.setdefault(did, shown), shown, row)
 
     def test_large_rows(self):
         one = effect([{"k": {str(place): place}} for place in range(66)])

@@ -3,13 +3,24 @@
 import inspect
 import unittest
 
-from twopatches import documents, effects, errors
+from twopatches import compacting, documents, effects, errors, likeness, orders
 
 FUNCTIONS = (
     (documents, "check", ["value"]),
     (documents, "applied", ["document", "patch"]),
     (documents, "run", ["document", "row"]),
     (effects, "effect", ["row"]),
+    (likeness, "same", ["row", "other"]),
+    (likeness, "parting", ["row", "other"]),
+    (likeness, "is_parting", ["row", "other", "document"]),
+    (compacting, "compact", ["row"]),
+    (compacting, "latest", ["row"]),
+    (compacting, "needless", ["row"]),
+    (compacting, "core", ["row"]),
+    (compacting, "writers", ["row"]),
+    (orders, "commute", ["one", "other"]),
+    (orders, "outcomes", ["patches"]),
+    (orders, "route", ["patches", "before", "after"]),
 )
 
 CLASSES = (

@@ -27,6 +27,11 @@ class Effect:
 def effect(row):
     """Return the effect of a row."""
     check_row(row)
+    return row_effect(row)
+
+
+def row_effect(row):
+    """Return what effect returns, without checking the row."""
     total = Effect("keep", None, ())
     for patch in row:
         total = total + patch_effect(patch)
