@@ -2,6 +2,7 @@
 
 from twopatches.documents import check_row, copied
 from twopatches.effects import effect, outcome, row_effect
+from twopatches.needs import Past, is_needed, row_future
 
 
 def compact(row):
@@ -22,8 +23,14 @@ def latest(row):
 
 def needless(row):
     """Return the places of all patches without which, each left out alone, a row has the same effect."""
-    total = effect(row)
-    return [place for place in range(len(row)) if row_effect(row[:place] + row[place + 1:]) == total]
+    check_row(row)
+    past, future = Past(False), row_future(row)
+    places = []
+    for place, patch in enumerate(row):
+        if not is_needed(patch, place, past, future):
+            places.append(place)
+        past.take(patch)
+    return places
 
 
 def core(row):
