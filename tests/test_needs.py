@@ -1,11 +1,11 @@
-"""Needless patches of long and of deep rows: the same answers as by leaving out patches, and soon: point [9]."""
+"""Needless patches and cores of long and of deep rows: answers as by leaving out patches, and soon: point [9]."""
 
 import random
 import time
 import unittest
 
 from support import levels, many_parts
-from twopatches.compacting import needless
+from twopatches.compacting import core, needless
 from twopatches.effects import effect
 
 # Documents of which the rows below consist: atoms and empty objects, of several kinds and few.
@@ -47,7 +47,17 @@ def needless_alone(row):
     return [place for place in range(len(row)) if effect(row[:place] + row[place + 1:]) == one]
 
 
-ANSWERS = ((needless, needless_alone),)
+def core_in_turn(row):
+    """What core returns, found by leaving out one patch after the other."""
+    one = effect(row)
+    left = []
+    for place, patch in enumerate(row):
+        if effect(left + row[place + 1:]) != one:
+            left.append(patch)
+    return left
+
+
+ANSWERS = ((needless, needless_alone), (core, core_in_turn))
 
 
 class Answers(unittest.TestCase):
@@ -96,6 +106,17 @@ class Answers(unittest.TestCase):
         self.assertEqual(needless([{"a": 5}, {"a": {"b": 1}}, {"a": 6}, {"a": {"b": 1}}]), [0, 1, 2])
         self.assertEqual(needless([{"a": 5}, {"a": {"c": 1}}, {"a": 6}, {"a": {"b": 1}}]), [0, 1])
         self.assertEqual(needless([{"a": {"b": {}}}, {"a": {}}, {"a": {"b": {"c": 1}}}, {}]), [0, 1, 3])
+        self.assertEqual(core([{"a": {"b": {}}}, {"a": {}}, {"a": {"b": {"c": 1}}}, {}]), [{"a": {"b": {"c": 1}}}])
+
+    def test_what_is_left_out_makes_others_count(self):
+        # Without the third patch, the second one does what the fourth one does.
+        row = [{"a": 5, "x": 1}, {"a": {"b": 1}, "y": 1}, {"a": 6}, {"a": {"b": 1}}]
+        self.assertEqual(core(row), row[:2])
+        # The third patch stays, and what was before it does not count.
+        row = [{"a": 5, "x": 1}, {"a": {"b": 1}, "y": 1}, {"a": 6, "z": 1}, {"a": {"b": 1}}]
+        self.assertEqual(core(row), row)
+        # Each of the first two is needless alone, but not both.
+        self.assertEqual(core([5, 6, {"a": 1}, {}]), [6, {"a": 1}])
 
 
 class Time(unittest.TestCase):

@@ -1,7 +1,7 @@
 """Compacting: fewer patches with the same effect, and which patches of a row count."""
 
 from twopatches.documents import check_row, copied
-from twopatches.effects import effect, outcome, row_effect
+from twopatches.effects import effect, outcome
 from twopatches.needs import Past, is_needed, row_future
 
 
@@ -35,11 +35,13 @@ def needless(row):
 
 def core(row):
     """Return the patches that are left if each that is needless then is left out, from the first to the last."""
-    total = effect(row)
+    check_row(row)
+    past, future = Past(False), row_future(row)
     left = []
     for place, patch in enumerate(row):
-        if row_effect(left + list(row[place + 1:])) != total:
+        if is_needed(patch, place, past, future):
             left.append(copied(patch))
+            past.take(patch)
     return left
 
 
