@@ -1,13 +1,15 @@
-"""Arguments and results of the functions of likeness, compacting and orders: points [2] and [3]."""
+"""Arguments and results of the functions of likeness, compacting, orders, changes and texts: points [2] and [3]."""
 
 import copy
 import unittest
 
 from support import Refusing, nested, shares, wide
+from twopatches.changes import change, is_result, lost, shared, undoing
 from twopatches.compacting import compact, core, latest, needless, writers
 from twopatches.effects import Effect
 from twopatches.likeness import is_parting, parting, same
 from twopatches.orders import commute, outcomes, route
+from twopatches.texts import document_text
 
 # Arguments with which each function has something to do.
 ROW = [{"a": [1], "b": {"c": 5}}, {"d": {}}, {"b": {"c": {"d": [2, None]}}}, {"d": {}}, {"e": None}]
@@ -15,6 +17,7 @@ OTHER = [{"a": [1], "b": None}, {"b": {"c": {"d": [2]}}}]
 DOCUMENT = {"a": [3], "b": {"f": [4], "c": {"g": None}}, "e": 1}
 PATCH = {"b": {"c": None}, "a": [5]}
 AFTER = {"a": [1], "b": {"f": [4], "c": {"d": [2, None]}}, "d": {}}
+MEETING = [{"b": {"h": 1}}, {"d": None}, {"d": {}, "i": [6]}]
 
 # Each function with its parameters, and an argument for each.
 CALLS = (
@@ -29,6 +32,12 @@ CALLS = (
     (commute, {"one": PATCH, "other": DOCUMENT}),
     (outcomes, {"patches": ROW}),
     (route, {"patches": ROW, "before": DOCUMENT, "after": AFTER}),
+    (change, {"before": DOCUMENT, "after": AFTER}),
+    (undoing, {"document": AFTER, "row": ROW}),
+    (is_result, {"row": ROW, "document": AFTER}),
+    (lost, {"row": ROW}),
+    (shared, {"row": ROW, "other": MEETING}),
+    (document_text, {"document": DOCUMENT}),
 )
 
 # Wrong documents and wrong rows: the field of the error that each raises, a path or a word.
@@ -98,8 +107,9 @@ class Wrong(Refusing):
 
     def test_arguments_at_the_limits(self):
         for call, given in CALLS:
+            # No change can make a member None, so the inmost value is 0.
             for name in given:
-                for good in (nested(8), nested(7, {}), wide(200), nested(7, wide(193))):
+                for good in (nested(8, 0), nested(7, {}), wide(200), nested(7, wide(193))):
                     call(**{**given, name: [good] if is_row(name, call) else good})
 
 
@@ -158,10 +168,14 @@ class Results(unittest.TestCase):
     def test_kinds(self):
         for call, given in CALLS:
             kind = call(**given).__class__
-            if call in (same, is_parting, commute):
+            if call in (same, is_parting, commute, is_result):
                 self.assertIs(kind, bool)
-            elif call is route:
+            elif call in (route, lost):
                 self.assertIs(kind, tuple)
+            elif call in (change, undoing, shared):
+                self.assertIs(kind, dict)
+            elif call is document_text:
+                self.assertIs(kind, str)
             elif call is not parting:
                 self.assertIs(kind, list)
 

@@ -3,7 +3,7 @@
 import inspect
 import unittest
 
-from twopatches import compacting, documents, effects, errors, likeness, orders
+from twopatches import changes, compacting, desk, documents, effects, errors, likeness, logs, orders, texts
 
 FUNCTIONS = (
     (documents, "check", ["value"]),
@@ -21,6 +21,14 @@ FUNCTIONS = (
     (orders, "commute", ["one", "other"]),
     (orders, "outcomes", ["patches"]),
     (orders, "route", ["patches", "before", "after"]),
+    (changes, "change", ["before", "after"]),
+    (changes, "undoing", ["document", "row"]),
+    (changes, "is_result", ["row", "document"]),
+    (changes, "lost", ["row"]),
+    (changes, "shared", ["row", "other"]),
+    (texts, "document_text", ["document"]),
+    (texts, "read_document", ["text"]),
+    (texts, "effect_text", ["one"]),
 )
 
 CLASSES = (
@@ -33,6 +41,22 @@ CLASSES = (
     (errors, "NoBack", None),
     (errors, "BadText", ["place"]),
     (effects, "Effect", ["kind", "atom", "members"]),
+    (changes, "Clash", ["path"]),
+    (logs, "Log", []),
+    (desk, "Desk", []),
+)
+
+METHODS = (
+    (logs.Log, "begin", ["self", "document"]),
+    (logs.Log, "add", ["self", "patch"]),
+    (logs.Log, "row", ["self"]),
+    (logs.Log, "first", ["self"]),
+    (logs.Log, "at", ["self", "time"]),
+    (logs.Log, "now", ["self"]),
+    (logs.Log, "squeeze", ["self", "begin", "end"]),
+    (logs.Log, "many", ["self"]),
+    (logs.Log, "back", ["self"]),
+    (desk.Desk, "tell", ["self", "row"]),
 )
 
 
@@ -55,7 +79,21 @@ class Interface(unittest.TestCase):
                 if parameters is not None:
                     self.assertEqual(list(inspect.signature(shown).parameters), parameters)
 
+    def test_parameters_have_no_stars_and_no_defaults(self):
+        functions = [getattr(module, name) for module, name, _ in FUNCTIONS]
+        for function in functions + [vars(shown)[name] for shown, name, _ in METHODS]:
+            for parameter in inspect.signature(function).parameters.values():
+                self.assertEqual(parameter.kind, inspect.Parameter.POSITIONAL_OR_KEYWORD)
+                self.assertIs(parameter.default, inspect.Parameter.empty)
+
+    def test_methods(self):
+        for shown, name, parameters in METHODS:
+            with self.subTest(name=name):
+                self.assertTrue(inspect.isfunction(vars(shown)[name]))
+                self.assertEqual(list(inspect.signature(vars(shown)[name]).parameters), parameters)
+
     def test_methods_stand_in_the_class_itself(self):
+        self.assertIn("__eq__", vars(changes.Clash))
         for name in ("__init__", "__eq__", "__add__", "__call__"):
             self.assertIn(name, vars(effects.Effect))
         self.assertEqual(list(inspect.signature(effects.effect([])).parameters), ["document"])

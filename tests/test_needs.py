@@ -68,7 +68,7 @@ class Answers(unittest.TestCase):
                 self.assertEqual(call(row), slow(row), (call, row))
 
     def test_rows_of_200_atoms_and_empty_objects(self):
-        self.same_answers(flat_rows(28, 200))
+        self.same_answers(flat_rows(14, 200))
 
     def test_shorter_rows_of_atoms_and_empty_objects(self):
         self.same_answers(flat_rows(700, 12))
@@ -77,7 +77,7 @@ class Answers(unittest.TestCase):
         self.same_answers(deep_rows(1500, 5))
 
     def test_rows_of_many_patches_of_depth_3(self):
-        rows = deep_rows(300, 40)
+        rows = deep_rows(160, 40)
         self.assertTrue(any(len(row) > 25 and max(map(levels, row)) == 3 for row in rows))
         self.same_answers(rows)
 

@@ -7,10 +7,10 @@ class Past:
     def __init__(self, fixed):
         # Whether it matters no more what was there before all patches.
         self.fixed = fixed
-        # The atom that is there if that is fixed and no object; None also if nothing is there.
-        self.atom = None
         # The pasts of the members, if an object is there.
         self.inner = None
+        # Else, if what is there is fixed, the atom, or None if nothing is there.
+        self.atom = None
 
     def take(self, patch):
         """Let one more patch follow."""
@@ -18,7 +18,7 @@ class Past:
             self.fixed, self.atom, self.inner = True, patch, None
             return
         if self.inner is None:
-            self.atom, self.inner = None, {}
+            self.inner = {}
         for key in patch:
             if key not in self.inner:
                 self.inner[key] = Past(self.fixed)
